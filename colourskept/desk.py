@@ -1,5 +1,6 @@
 """The desk: one text with its rules, and the calls on it."""
 
+from colourskept.brackets import lone_brackets, partner_places, place_of_bracket, text_brackets
 from colourskept.colouring import FIRST_STACK, colour_line
 from colourskept.lines import Line, line_count_holds, lines_hold, read_lines
 from colourskept.reading import Row
@@ -10,9 +11,16 @@ CALL_TEXT = 1
 CALL_EDIT = 2
 CALL_SHOW = 3
 CALL_STATE = 4
+CALL_STALE = 5
+CALL_PAIR = 6
+CALL_ALONE = 7
+CALL_ANEW = 8
+CALL_LINES = 9
 
 WRONG = -1
 WRONG_LINE_COUNT = -5
+NO_BRACKET_THERE = -6
+BRACKET_ALONE = -7
 
 
 class Desk:
@@ -27,8 +35,7 @@ class Desk:
         if not modes_hold(modes):
             return [WRONG]
         self.modes = modes
-        # New lines of the same bytes have nothing kept.
-        self.lines = [Line(line.contents) for line in self.lines]
+        self.take_away_kept()
         return [len(modes)]
 
     def put_text(self, numbers):
@@ -67,6 +74,51 @@ class Desk:
         stack = self.stack_ahead_of(place)
         return [anew, len(stack)] + list(reversed(stack))
 
+    def stale(self):
+        count = 0
+        stack = FIRST_STACK
+        for line in self.lines:
+            if line.stays(stack):
+                stack = line.kept.behind
+            else:
+                # Coloured only to know the modes behind it: nothing may be kept by being asked.
+                stack = colour_line(self.modes, stack, line.contents).behind
+                count += 1
+        return [count]
+
+    def pair(self, place, column):
+        if place >= len(self.lines) or column >= len(self.lines[place].contents):
+            return [WRONG]
+        brackets = self.keep_up_brackets()
+        found = place_of_bracket(brackets, place, column)
+        if found is None:
+            return [NO_BRACKET_THERE]
+        partners = partner_places(brackets)
+        if found not in partners:
+            return [BRACKET_ALONE]
+        partner = brackets[partners[found]]
+        return [partner.line, partner.begin, partner.end]
+
+    def alone(self):
+        lone = lone_brackets(self.keep_up_brackets())
+        answer = [len(lone)]
+        for bracket in lone:
+            answer.extend([bracket.line, bracket.begin, bracket.number])
+        return answer
+
+    def anew(self):
+        self.take_away_kept()
+        return [self.keep_up(len(self.lines))]
+
+    def tell_lines(self, begin, to):
+        if not self.has_span(begin, to):
+            return [WRONG]
+        told = []
+        for line in self.lines[begin:to]:
+            told.append(len(line.contents))
+            told.extend(line.contents)
+        return told
+
     def has_span(self, begin, to):
         return begin <= to and to <= len(self.lines)
 
@@ -82,10 +134,19 @@ class Desk:
         for place in range(count):
             line = self.lines[place]
             stack = self.stack_ahead_of(place)
-            if line.kept is None or line.kept.begun != stack:
+            if not line.stays(stack):
                 line.kept = colour_line(self.modes, stack, line.contents)
                 anew += 1
         return anew
+
+    def keep_up_brackets(self):
+        """Keeps up all lines; gives back the brackets of the whole text, in order."""
+        self.keep_up(len(self.lines))
+        return text_brackets([line.kept.tokens for line in self.lines])
+
+    def take_away_kept(self):
+        # New lines of the same bytes have nothing kept.
+        self.lines = [Line(line.contents) for line in self.lines]
 
 
 def answer_call(desk, row):
@@ -105,7 +166,21 @@ def answer_call(desk, row):
         return desk.show(begin, to)
     if call == CALL_STATE:
         return desk.state(row.take())
-    raise NotImplementedError(f"call {call} is not there yet")
+    if call == CALL_STALE:
+        return desk.stale()
+    if call == CALL_PAIR:
+        line = row.take()
+        column = row.take()
+        return desk.pair(line, column)
+    if call == CALL_ALONE:
+        return desk.alone()
+    if call == CALL_ANEW:
+        return desk.anew()
+    if call == CALL_LINES:
+        begin = row.take()
+        to = row.take()
+        return desk.tell_lines(begin, to)
+    raise ValueError(f"there is no call {call}")
 
 
 def answers(calls):

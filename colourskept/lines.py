@@ -15,6 +15,10 @@ class Line:
         self.contents = contents
         self.kept = None
 
+    def stays(self, stack):
+        """Whether something is kept that began in just these modes."""
+        return self.kept is not None and self.kept.begun == stack
+
 
 def read_lines(numbers):
     """New lines, of which nothing is kept."""
